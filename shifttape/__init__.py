@@ -1,0 +1,1 @@
+"""Shifttape: texts with two sets of signs, and shift codes."""
