@@ -1,17 +1,20 @@
 """Refusals of what is handed in."""
 
-from shifttape.errors import BadSet, BadSheet, BadTape, NoSign
+from shifttape.errors import BadCount, BadSet, BadSheet, BadTape, NoSign
 
 MOST_PLACES = 26
 MOST_CODES = 100
 MOST_SIGNS = 32
 
 
+def are_signs(signs):
+    """Tell whether all signs are from the blank to ~."""
+    return all(" " <= sign <= "~" for sign in signs)
+
+
 def _can_be_a_set(signs):
     """Tell whether all signs are from the blank to ~, and all unlike."""
-    if len(set(signs)) < len(signs):
-        return False
-    return all(" " <= sign <= "~" for sign in signs)
+    return are_signs(signs) and len(set(signs)) == len(signs)
 
 
 def check_sheet(sheet):
@@ -47,3 +50,16 @@ def check_text(sheet, text):
     for place, sign in enumerate(text):
         if place == MOST_SIGNS or (sign not in zero and sign not in one):
             raise NoSign(place)
+
+
+def check_count(many, most):
+    """Refuse what is no number from 0 to the most that is allowed."""
+    if not 0 <= many <= most:
+        raise BadCount(f"a number from 0 to {most} is wanted here")
+
+
+def check_begun(sheet, tape, begin):
+    """Refuse a bad sheet, tape or set, in the order in which they are handed in."""
+    check_sheet(sheet)
+    check_tape(sheet, tape)
+    check_set(begin)

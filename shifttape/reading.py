@@ -1,6 +1,6 @@
 """What tapes are read as."""
 
-from shifttape.checks import check_set, check_sheet, check_tape
+from shifttape.checks import check_begun
 
 
 def set_behind(sheet, code, now):
@@ -24,22 +24,15 @@ def walked(sheet, tape, begin):
     return text, now
 
 
-def _check_begun(sheet, tape, begin):
-    """Refuse a bad sheet, tape or set, in the order in which they are handed in."""
-    check_sheet(sheet)
-    check_tape(sheet, tape)
-    check_set(begin)
-
-
 def read(sheet, tape, begin):
     """Return the text of all signs of a tape that is begun in a set."""
-    _check_begun(sheet, tape, begin)
+    check_begun(sheet, tape, begin)
     text, _ = walked(sheet, tape, begin)
     return text
 
 
 def last_set(sheet, tape, begin):
     """Return the set at the end of a tape that is begun in a set."""
-    _check_begun(sheet, tape, begin)
+    check_begun(sheet, tape, begin)
     _, now = walked(sheet, tape, begin)
     return now

@@ -39,6 +39,72 @@ def plain_read(sheet, tape, begin):
     return "".join(signs)
 
 
+def plain_end(sheet, tape, begin):
+    now = begin
+    for code in tape:
+        _, now = stepped(sheet, code, now)
+    return now
+
+
+def plain_losses(sheet, tape, begin):
+    """Return (place, many) for each shift, by a second reader that misses that one code."""
+    told = []
+    now = begin
+    for place, lost in enumerate(tape):
+        _, behind = stepped(sheet, lost, now)
+        if lost >= len(sheet[0]):
+            right, wrong, many = behind, now, 0
+            for code in tape[place + 1:]:
+                sign, right = stepped(sheet, code, right)
+                instead, wrong = stepped(sheet, code, wrong)
+                many += sign != instead
+            told.append((place, many))
+        now = behind
+    return told
+
+
+def worst_loss(sheet, tape, begin):
+    return max([many for _, many in plain_losses(sheet, tape, begin)], default=0)
+
+
+def tapes_read_as(sheet, text, begin, length):
+    """Go through all tapes of just so many codes that are read as the text if begun in the set."""
+    if length == 0:
+        if text == "":
+            yield []
+        return
+    for code in range(len(sheet[0]) + 2):
+        sign, now = stepped(sheet, code, begin)
+        if text.startswith(sign):
+            for tape in tapes_read_as(sheet, text[len(sign):], now, length - 1):
+                yield [code] + tape
+
+
+def guarded_length(sheet, text, begin, most):
+    """Return how long a shortest guarded tape is, by a search from the front.
+
+    Two readers go along: one that has had all codes, and one that missed the last shift.
+    """
+    size = len(sheet[0])
+    level = [(0, begin, begin, 0)]
+    seen = set(level)
+    length = 0
+    while not any(place == len(text) for place, _, _, _ in level):
+        beyond = []
+        for place, now, lost, many in level:
+            steps = [(place, 0, now, 0), (place, 1, now, 0)]
+            code = sheet[now].find(text[place])
+            if code >= 0:
+                sign, right = stepped(sheet, code, now)
+                instead, wrong = stepped(sheet, code, lost)
+                steps.append((place + 1, right, wrong, many + (sign != instead)))
+            beyond.extend(step for step in steps if step[3] <= most and step not in seen)
+            seen.update(steps)
+        level = beyond
+        length += 1
+    return length
+
+
 def first_tapes(sheet, most):
     """Go through all tapes of at most so many codes, by length and then as lists ascend.
 

@@ -3,8 +3,12 @@
 import unittest
 
 from shifttape.errors import BadSet, BadSheet, BadTape, NoSign
+from shifttape.guarding import guarded, is_guarded
+from shifttape.joining import cut, joined
+from shifttape.losses import lost_at, spoilt
 from shifttape.reading import last_set, read
 from shifttape.shortest import either, shortest
+from shifttape.texts import written
 from tests.helper import refusal
 
 LOW = "abcdefghijklmnopqrstuvwxyz"
@@ -18,14 +22,42 @@ OVER_A_SHEET = (
     lambda sheet: last_set(sheet, [], 0),
     lambda sheet: shortest(sheet, "", 0),
     lambda sheet: either(sheet, ""),
+    lambda sheet: spoilt(sheet, [], 0),
+    lambda sheet: lost_at(sheet, [], 0, ""),
+    lambda sheet: guarded(sheet, "", 0, 0),
+    lambda sheet: is_guarded(sheet, [], 0, 0),
+    lambda sheet: joined(sheet, [], 0),
+    lambda sheet: cut(sheet, [], 0, 0),
+    written,
 )
-OVER_A_TAPE = (read, last_set)
+OVER_A_TAPE = (
+    read,
+    last_set,
+    spoilt,
+    lambda sheet, tape, begin: lost_at(sheet, tape, begin, ""),
+    lambda sheet, tape, begin: is_guarded(sheet, tape, begin, 32),
+    lambda sheet, tape, begin: joined(sheet, [tape], begin),
+    lambda sheet, tape, begin: joined(sheet, [[], [0], tape, [0]], begin),
+    lambda sheet, tape, begin: cut(sheet, tape, begin, 0),
+)
 OVER_A_SET = (
     lambda begin: read(AB, [0], begin),
     lambda begin: last_set(AB, [0], begin),
     lambda begin: shortest(AB, "a", begin),
+    lambda begin: spoilt(AB, [0], begin),
+    lambda begin: lost_at(AB, [0], begin, "a"),
+    lambda begin: guarded(AB, "a", begin, 0),
+    lambda begin: is_guarded(AB, [0], begin, 0),
+    lambda begin: joined(AB, [[0]], begin),
+    lambda begin: joined(AB, [], begin),
+    lambda begin: cut(AB, [0], begin, 1),
 )
-OVER_A_TEXT = (lambda sheet, text: shortest(sheet, text, 0), either)
+OVER_A_TEXT = (
+    lambda sheet, text: shortest(sheet, text, 0),
+    either,
+    lambda sheet, text: guarded(sheet, text, 0, 0),
+    lambda sheet, text: guarded(sheet, text, 1, 32),
+)
 
 
 class Sheets(unittest.TestCase):
@@ -195,30 +227,6 @@ class Texts(unittest.TestCase):
     def test_each_set_alone_is_enough(self):
         self.assertEqual(shortest(AB, "ab", 0), [0, 1])
         self.assertEqual(shortest(AB, "cd", 1), [0, 1])
-
-
-class Order(unittest.TestCase):
-    """Of several what is handed in first is refused."""
-
-    def test_a_sheet_ahead_of_all(self):
-        for sheet in (("a", "", None), ("aa", "bc", None), ("a", "b", 1)):
-            for action in OVER_A_TAPE:
-                refusal(self, BadSheet, action, sheet, [-1], 2)
-                refusal(self, BadSheet, action, sheet, [0], 2)
-                refusal(self, BadSheet, action, sheet, [99], 0)
-            refusal(self, BadSheet, shortest, sheet, "x", 2)
-            refusal(self, BadSheet, shortest, sheet, "a", 2)
-            refusal(self, BadSheet, shortest, sheet, "x", 0)
-            refusal(self, BadSheet, either, sheet, "x")
-
-    def test_a_tape_ahead_of_a_set(self):
-        for action in OVER_A_TAPE:
-            self.assertEqual(refusal(self, BadTape, action, AB, [0, 4], 2).place, 1)
-            self.assertEqual(refusal(self, BadTape, action, AB, [0] * 101, -1).place, 100)
-
-    def test_a_text_ahead_of_a_set(self):
-        self.assertEqual(refusal(self, NoSign, shortest, AB, "ax", 2).place, 1)
-        self.assertEqual(refusal(self, NoSign, shortest, AB, "a" * 33, -1).place, 32)
 
 
 if __name__ == "__main__":
